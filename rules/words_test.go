@@ -63,6 +63,7 @@ func TestErrorsHaveTheirNumbers(t *testing.T) {
 		{api.ErrShort, 20}, {api.ErrTail, 21}, {api.ErrForm, 22}, {api.ErrField, 23},
 		{api.ErrDown, 40}, {api.ErrSector, 41}, {api.ErrData, 42}, {api.ErrImage, 43},
 		{api.ErrMaster, 50},
+		{api.ErrLog, 60},
 		{api.ErrKind, 70},
 	} {
 		if int(c.e) != c.want {
