@@ -65,7 +65,7 @@ func TestErrorsHaveTheirNumbers(t *testing.T) {
 		{api.ErrMaster, 50},
 		{api.ErrLog, 60},
 		{api.ErrKind, 70},
-		{api.ErrMark, 80}, {api.ErrSum, 81}, {api.ErrPage, 82},
+		{api.ErrMark, 80}, {api.ErrSum, 81}, {api.ErrPage, 82}, {api.ErrTwin, 84},
 	} {
 		if int(c.e) != c.want {
 			t.Errorf("an error has the number %d, want %d", int(c.e), c.want)
