@@ -66,6 +66,7 @@ func TestErrorsHaveTheirNumbers(t *testing.T) {
 		{api.ErrLog, 60},
 		{api.ErrKind, 70},
 		{api.ErrMark, 80}, {api.ErrSum, 81}, {api.ErrPage, 82}, {api.ErrTwin, 84},
+		{api.ErrPinned, 100}, {api.ErrAbsent, 101},
 	} {
 		if int(c.e) != c.want {
 			t.Errorf("an error has the number %d, want %d", int(c.e), c.want)
