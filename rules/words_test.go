@@ -67,6 +67,8 @@ func TestErrorsHaveTheirNumbers(t *testing.T) {
 		{api.ErrKind, 70},
 		{api.ErrMark, 80}, {api.ErrSum, 81}, {api.ErrPage, 82}, {api.ErrTwin, 84},
 		{api.ErrPinned, 100}, {api.ErrAbsent, 101},
+		{api.ErrBounds, 110},
+		{api.ErrTx, 130},
 	} {
 		if int(c.e) != c.want {
 			t.Errorf("an error has the number %d, want %d", int(c.e), c.want)
