@@ -68,6 +68,7 @@ func TestErrorsHaveTheirNumbers(t *testing.T) {
 		{api.ErrMark, 80}, {api.ErrSum, 81}, {api.ErrPage, 82}, {api.ErrTwin, 84},
 		{api.ErrPinned, 100}, {api.ErrAbsent, 101},
 		{api.ErrBounds, 110},
+		{api.ErrCounter, 120}, {api.ErrTwice, 121}, {api.ErrGroup, 122},
 		{api.ErrTx, 130},
 	} {
 		if int(c.e) != c.want {
