@@ -128,6 +128,17 @@ func TestImports(t *testing.T) {
 	}
 }
 
+// TestRegistryStandsOnApiAlone: no other layer's package may come in with it, though some stand below.
+func TestRegistryStandsOnApiAlone(t *testing.T) {
+	for _, s := range program(t) {
+		for _, i := range s.file.Imports {
+			if s.folder == "registry" && strings.HasPrefix(i.Path.Value, `"quota/`) && i.Path.Value != `"quota/api"` {
+				t.Errorf("%s imports %s", s.path, i.Path.Value)
+			}
+		}
+	}
+}
+
 func TestOfSyncOnlyWhatIsListed(t *testing.T) {
 	for _, s := range program(t) {
 		ast.Inspect(s.file, func(n ast.Node) bool {

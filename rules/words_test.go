@@ -65,7 +65,7 @@ func TestErrorsHaveTheirNumbers(t *testing.T) {
 		{api.ErrMaster, 50},
 		{api.ErrLog, 60},
 		{api.ErrKind, 70},
-		{api.ErrMark, 80}, {api.ErrSum, 81}, {api.ErrPage, 82}, {api.ErrTwin, 84},
+		{api.ErrMark, 80}, {api.ErrSum, 81}, {api.ErrPage, 82}, {api.ErrSlot, 83}, {api.ErrTwin, 84},
 		{api.ErrPinned, 100}, {api.ErrAbsent, 101},
 		{api.ErrBounds, 110},
 		{api.ErrCounter, 120}, {api.ErrTwice, 121}, {api.ErrGroup, 122},
