@@ -69,7 +69,7 @@ func TestErrorsHaveTheirNumbers(t *testing.T) {
 		{api.ErrPinned, 100}, {api.ErrAbsent, 101},
 		{api.ErrBounds, 110},
 		{api.ErrCounter, 120}, {api.ErrTwice, 121}, {api.ErrGroup, 122},
-		{api.ErrTx, 130},
+		{api.ErrTx, 130}, {api.ErrMany, 131},
 	} {
 		if int(c.e) != c.want {
 			t.Errorf("an error has the number %d, want %d", int(c.e), c.want)
